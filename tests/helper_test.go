@@ -1,0 +1,218 @@
+package tests
+
+import (
+	"math/rand/v2"
+	"slices"
+
+	"loop.example/constraintsolver/impl"
+)
+
+const (
+	smallestInt = -1 << 63
+	largestInt  = 1<<63 - 1
+)
+
+// invalidDomains lists numbers that are no domains, next to the limits and far from them.
+func invalidDomains() []int {
+	return []int{-1, -2, -64, 64, 65, 127, 128, 1 << 32, 1<<32 + 1, smallestInt, smallestInt + 1, largestInt}
+}
+
+// allAssignments lists every assignment of n variables in lexicographic order.
+func allAssignments(n int) [][]int {
+	list := [][]int{{}}
+	for range n {
+		var longer [][]int
+		for _, x := range list {
+			for v := 0; v <= 5; v++ {
+				longer = append(longer, append(slices.Clone(x), v))
+			}
+		}
+		list = longer
+	}
+	return list
+}
+
+// sameConstraint compares constraints; nil and empty slices are equal.
+func sameConstraint(a impl.Constraint, b impl.Constraint) bool {
+	return a.Kind == b.Kind && a.Bound == b.Bound && slices.Equal(a.Vars, b.Vars) && slices.Equal(a.Args, b.Args) &&
+		slices.EqualFunc(a.Rows, b.Rows, slices.Equal[[]int])
+}
+
+// sameModel compares models; nil and empty slices are equal.
+func sameModel(a impl.Model, b impl.Model) bool {
+	return slices.Equal(a.Domains, b.Domains) && slices.EqualFunc(a.Constraints, b.Constraints, sameConstraint)
+}
+
+// isZeroModel reports whether m is the zero Model, as together with false.
+func isZeroModel(m impl.Model) bool {
+	return len(m.Domains) == 0 && len(m.Constraints) == 0
+}
+
+// cloneConstraint returns an independent copy of c.
+func cloneConstraint(c impl.Constraint) impl.Constraint {
+	rows := make([][]int, len(c.Rows))
+	for i, row := range c.Rows {
+		rows[i] = slices.Clone(row)
+	}
+	return impl.Constraint{Kind: c.Kind, Vars: slices.Clone(c.Vars), Args: slices.Clone(c.Args), Bound: c.Bound, Rows: rows}
+}
+
+// cloneModel returns an independent copy of m.
+func cloneModel(m impl.Model) impl.Model {
+	constraints := make([]impl.Constraint, len(m.Constraints))
+	for i, c := range m.Constraints {
+		constraints[i] = cloneConstraint(c)
+	}
+	return impl.Model{Domains: slices.Clone(m.Domains), Constraints: constraints}
+}
+
+// source makes the same models in every run.
+type source struct {
+	*rand.Rand
+}
+
+func newSource(seed uint64) source {
+	return source{rand.New(rand.NewPCG(seed, 1))}
+}
+
+// between returns a number in low..high.
+func (s source) between(low int, high int) int {
+	return low + s.IntN(high-low+1)
+}
+
+// list returns numbers in low..high.
+func (s source) list(length int, low int, high int) []int {
+	numbers := make([]int, length)
+	for i := range numbers {
+		numbers[i] = s.between(low, high)
+	}
+	return numbers
+}
+
+// rows returns lists of numbers in low..high.
+func (s source) rows(count int, length int, low int, high int) [][]int {
+	rows := make([][]int, count)
+	for i := range rows {
+		rows[i] = s.list(length, low, high)
+	}
+	return rows
+}
+
+// constraint returns a valid constraint for n variables. Kinds of two variables become Linear if there is only one.
+func (s source) constraint(n int) impl.Constraint {
+	c := impl.Constraint{Kind: s.between(1, 9)}
+	k := s.between(1, n)
+	if c.Kind == impl.NotEqual || c.Kind == impl.Element {
+		k = 2
+		if n < 2 {
+			c.Kind, k = impl.Linear, 1
+		}
+	}
+	c.Vars = s.Perm(n)[:k]
+	s.fill(&c, k)
+	return c
+}
+
+// fill sets the parameters that the kind of c requires.
+func (s source) fill(c *impl.Constraint, k int) {
+	switch c.Kind {
+	case impl.Linear:
+		c.Args, c.Bound = s.list(k, -9, 9), s.between(-20, 20)
+	case impl.NotEqual:
+		c.Args = s.list(1, -5, 5)
+	case impl.Element:
+		c.Args = s.list(s.between(1, 6), 0, 5)
+	case impl.Table:
+		c.Rows = s.rows(s.between(1, 8), k, 0, 5)
+	case impl.Count:
+		c.Args, c.Bound = s.list(1, 0, 5), s.between(0, 4)
+	case impl.Cumulative:
+		c.Args, c.Bound = s.list(2*k, 0, 9), s.between(0, 9)
+	case impl.Regular:
+		states := s.between(1, 8)
+		c.Rows, c.Args = s.rows(states, 6, -1, states-1), s.Perm(states)[:s.between(0, states)]
+	}
+}
+
+// model returns a valid model.
+func (s source) model() impl.Model {
+	n := s.between(1, 4)
+	m := impl.Model{Domains: s.list(n, 0, 63)}
+	for range s.between(0, 6) {
+		m.Constraints = append(m.Constraints, s.constraint(n))
+	}
+	return m
+}
+
+// holds is the document's table of kinds, written down independently of the program.
+func holds(c impl.Constraint, assignment []int) bool {
+	var x []int
+	for _, v := range c.Vars {
+		x = append(x, assignment[v])
+	}
+	k := len(x)
+	switch c.Kind {
+	case impl.Linear:
+		for i := range x {
+			c.Bound -= c.Args[i] * x[i]
+		}
+		return c.Bound >= 0
+	case impl.NotEqual:
+		return x[0]-x[1] != c.Args[0]
+	case impl.AllDifferent:
+		slices.Sort(x)
+		return len(slices.Compact(x)) == k
+	case impl.Element:
+		for i, v := range c.Args {
+			if x[0] == i && x[1] == v {
+				return true
+			}
+		}
+		return false
+	case impl.Table:
+		return slices.ContainsFunc(c.Rows, func(row []int) bool { return slices.Equal(row, x) })
+	case impl.Count:
+		return len(slices.DeleteFunc(x, func(v int) bool { return v != c.Args[0] })) == c.Bound
+	case impl.Cumulative:
+		return holdsCumulative(c, x)
+	case impl.Regular:
+		return holdsRegular(c, x)
+	default:
+		return holdsCircuit(x)
+	}
+}
+
+func holdsCumulative(c impl.Constraint, x []int) bool {
+	var usage [20]int
+	for i, start := range x {
+		for t := start; t < start+c.Args[i]; t++ {
+			usage[t] += c.Args[len(x)+i]
+		}
+	}
+	return slices.Max(usage[:]) <= c.Bound
+}
+
+func holdsRegular(c impl.Constraint, x []int) bool {
+	states := []int{0}
+	for _, v := range x {
+		next := c.Rows[states[0]][v]
+		if next < 0 {
+			return false
+		}
+		states[0] = next
+	}
+	return slices.Contains(c.Args, states[0])
+}
+
+func holdsCircuit(x []int) bool {
+	visited := map[int]bool{}
+	position := 0
+	for range x {
+		if position >= len(x) {
+			return false
+		}
+		visited[position] = true
+		position = x[position]
+	}
+	return position == 0 && len(visited) == len(x)
+}
