@@ -178,16 +178,20 @@ func ValidConstraint(c Constraint, n int) bool {
 
 // ValidModel reports whether m is a valid model.
 func ValidModel(m Model) bool {
-	n := len(m.Domains)
-	if !within(n, 1, MaxVars) || !allWithin(m.Domains, 0, fullDomain) || len(m.Constraints) > MaxConstraints {
+	if !validDomains(m.Domains) || len(m.Constraints) > MaxConstraints {
 		return false
 	}
 	for _, c := range m.Constraints {
-		if !ValidConstraint(c, n) {
+		if !ValidConstraint(c, len(m.Domains)) {
 			return false
 		}
 	}
 	return true
+}
+
+// validDomains reports whether there are 1 to MaxVars domains, all of them valid.
+func validDomains(domains []int) bool {
+	return within(len(domains), 1, MaxVars) && allWithin(domains, 0, fullDomain)
 }
 
 // WithConstraint returns m with an additional constraint.

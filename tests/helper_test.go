@@ -17,6 +17,31 @@ func invalidDomains() []int {
 	return []int{-1, -2, -64, 64, 65, 127, 128, 1 << 32, 1<<32 + 1, smallestInt, smallestInt + 1, largestInt}
 }
 
+// invalidModels lists models that are invalid in different ways.
+func invalidModels() []impl.Model {
+	never := impl.Constraint{Kind: impl.Linear, Vars: []int{0}, Args: []int{0}, Bound: -1}
+	always := impl.Constraint{Kind: impl.AllDifferent, Vars: []int{0}}
+	return []impl.Model{
+		{},
+		{Domains: []int{-1}},
+		{Domains: []int{0, 64}},
+		{Domains: []int{0, 0, 0, 0, 0}},
+		{Domains: []int{1}, Constraints: slices.Repeat([]impl.Constraint{always}, 7)},
+		{Domains: []int{0}, Constraints: []impl.Constraint{{}}},
+		{Domains: []int{1}, Constraints: []impl.Constraint{always, {Kind: impl.AllDifferent, Vars: []int{1}}}},
+		{Constraints: []impl.Constraint{never}},
+		{Domains: []int{64}, Constraints: []impl.Constraint{never}},
+		{Domains: []int{63}, Constraints: []impl.Constraint{never, {}}},
+		{Domains: []int{63}, Constraints: slices.Repeat([]impl.Constraint{never}, 7)},
+		{Domains: []int{63, 63, 63, 63, 63}, Constraints: []impl.Constraint{never}},
+		{Domains: []int{127}},
+		{Domains: []int{63}, Constraints: []impl.Constraint{{Kind: impl.Circuit, Vars: []int{0}, Bound: 1}}},
+		{Domains: []int{63}, Constraints: []impl.Constraint{{Kind: 10, Vars: []int{0}}}},
+		{Domains: []int{63}, Constraints: []impl.Constraint{{Kind: -1, Vars: []int{0}}}},
+		{Domains: []int{63}, Constraints: []impl.Constraint{{Kind: impl.Regular, Vars: []int{0}, Args: []int{0}, Rows: [][]int{{9, 9}}}}},
+	}
+}
+
 // allAssignments lists every assignment of n variables in lexicographic order.
 func allAssignments(n int) [][]int {
 	list := [][]int{{}}
@@ -134,14 +159,24 @@ func (s source) fill(c *impl.Constraint, k int) {
 	}
 }
 
-// model returns a valid model.
-func (s source) model() impl.Model {
+// modelWith returns a valid model with domains that are at least the given number, and at most so many constraints.
+func (s source) modelWith(leastDomain int, mostConstraints int) impl.Model {
 	n := s.between(1, 4)
-	m := impl.Model{Domains: s.list(n, 0, 63)}
-	for range s.between(0, 6) {
+	m := impl.Model{Domains: s.list(n, leastDomain, 63)}
+	for range s.between(0, mostConstraints) {
 		m.Constraints = append(m.Constraints, s.constraint(n))
 	}
 	return m
+}
+
+// model returns a valid model.
+func (s source) model() impl.Model {
+	return s.modelWith(0, 6)
+}
+
+// easyModel returns a valid model with few constraints and no empty domain, so that it often has solutions.
+func (s source) easyModel() impl.Model {
+	return s.modelWith(1, 2)
 }
 
 // holds is the document's table of kinds, written down independently of the program.

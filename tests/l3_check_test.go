@@ -230,20 +230,7 @@ func TestAssignmentsThatAreNone(t *testing.T) {
 }
 
 func TestAssignmentsOfInvalidModels(t *testing.T) {
-	never := impl.Constraint{Kind: impl.Linear, Vars: []int{0}, Args: []int{0}, Bound: -1}
-	for _, m := range []impl.Model{
-		{},
-		{Constraints: []impl.Constraint{never}},
-		{Domains: []int{64}, Constraints: []impl.Constraint{never}},
-		{Domains: []int{63}, Constraints: []impl.Constraint{never, {}}},
-		{Domains: []int{63}, Constraints: slices.Repeat([]impl.Constraint{never}, 7)},
-		{Domains: []int{63, 63, 63, 63, 63}, Constraints: []impl.Constraint{never}},
-		{Domains: []int{127}},
-		{Domains: []int{63}, Constraints: []impl.Constraint{{Kind: impl.Circuit, Vars: []int{0}, Bound: 1}}},
-		{Domains: []int{63}, Constraints: []impl.Constraint{{Kind: 10, Vars: []int{0}}}},
-		{Domains: []int{63}, Constraints: []impl.Constraint{{Kind: -1, Vars: []int{0}}}},
-		{Domains: []int{63}, Constraints: []impl.Constraint{{Kind: impl.Regular, Vars: []int{0}, Args: []int{0}, Rows: [][]int{{9, 9}}}}},
-	} {
+	for _, m := range invalidModels() {
 		x := make([]int, len(m.Domains))
 		if got := impl.Violated(m, x); len(got) != 0 {
 			t.Errorf("Violated(%+v, %v) = %v", m, x, got)
