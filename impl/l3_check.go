@@ -19,12 +19,17 @@ func satisfactionTest(c Constraint) func(x []int) bool {
 	return tests[c.Kind]
 }
 
-func (c linearRule) satisfied(x []int) bool {
+// weightedSum returns the sum of the values, each times its coefficient.
+func weightedSum(coefficients []int, x []int) int {
 	sum := 0
 	for i, v := range x {
-		sum += c.Args[i] * v
+		sum += coefficients[i] * v
 	}
-	return sum <= c.Bound
+	return sum
+}
+
+func (c linearRule) satisfied(x []int) bool {
+	return weightedSum(c.Args, x) <= c.Bound
 }
 
 func (c notEqualRule) satisfied(x []int) bool {

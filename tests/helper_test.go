@@ -3,6 +3,7 @@ package tests
 import (
 	"math/rand/v2"
 	"slices"
+	"testing"
 
 	"loop.example/constraintsolver/impl"
 )
@@ -40,6 +41,47 @@ func invalidModels() []impl.Model {
 		{Domains: []int{63}, Constraints: []impl.Constraint{{Kind: -1, Vars: []int{0}}}},
 		{Domains: []int{63}, Constraints: []impl.Constraint{{Kind: impl.Regular, Vars: []int{0}, Args: []int{0}, Rows: [][]int{{9, 9}}}}},
 	}
+}
+
+// invalidConstraints lists constraints that are invalid for two variables in different ways.
+func invalidConstraints() []impl.Constraint {
+	return []impl.Constraint{
+		{},
+		{Kind: impl.AllDifferent},
+		{Kind: impl.AllDifferent, Vars: []int{2}},
+		{Kind: impl.AllDifferent, Vars: []int{-1}},
+		{Kind: impl.AllDifferent, Vars: []int{0, 0}},
+		{Kind: impl.AllDifferent, Vars: []int{0, 1}, Bound: 1},
+		{Kind: 10, Vars: []int{0, 1}},
+		{Kind: -1, Vars: []int{0, 1}},
+		{Kind: largestInt, Vars: []int{0, 1}},
+		{Kind: impl.Linear, Vars: []int{0, 1}, Args: []int{0}},
+		{Kind: impl.Linear, Vars: []int{0, 1}, Args: []int{0, 0}, Bound: 1000},
+		{Kind: impl.Linear, Vars: []int{0}, Args: []int{0}, Bound: -1000},
+		{Kind: impl.Linear, Vars: []int{0, 2}, Args: []int{0, 0}, Bound: -1},
+		{Kind: impl.Regular, Vars: []int{0, 1}, Args: []int{0}, Rows: [][]int{{9, 9}}},
+		{Kind: impl.Table, Vars: []int{0, 1}},
+	}
+}
+
+// spoil returns a copy of the lists after it has overwritten them, with their spare memory. It reports lists that share
+// memory.
+func spoil(t *testing.T, lists [][]int) [][]int {
+	t.Helper()
+	kept := make([][]int, len(lists))
+	for i, list := range lists {
+		kept[i] = slices.Clone(list)
+	}
+	for i, list := range lists {
+		if !slices.Equal(list, kept[i]) {
+			t.Fatal("two lists share memory")
+		}
+		list = list[:cap(list)]
+		for j := range list {
+			list[j] = 99
+		}
+	}
+	return kept
 }
 
 // allAssignments lists every assignment of n variables in lexicographic order.

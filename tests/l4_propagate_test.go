@@ -224,21 +224,7 @@ func TestFilterAndIsEntailedRejectInvalidArguments(t *testing.T) {
 			}
 		}
 	}
-	for _, c := range []impl.Constraint{
-		{},
-		{Kind: impl.AllDifferent},
-		{Kind: impl.AllDifferent, Vars: []int{2}},
-		{Kind: impl.AllDifferent, Vars: []int{-1}},
-		{Kind: impl.AllDifferent, Vars: []int{0, 0}},
-		{Kind: impl.AllDifferent, Vars: []int{0, 1}, Bound: 1},
-		{Kind: 10, Vars: []int{0, 1}},
-		{Kind: -1, Vars: []int{0, 1}},
-		{Kind: largestInt, Vars: []int{0, 1}},
-		{Kind: impl.Linear, Vars: []int{0, 1}, Args: []int{0}},
-		{Kind: impl.Linear, Vars: []int{0, 1}, Args: []int{0, 0}, Bound: 1000},
-		{Kind: impl.Regular, Vars: []int{0, 1}, Args: []int{0}, Rows: [][]int{{9, 9}}},
-		{Kind: impl.Table, Vars: []int{0, 1}},
-	} {
+	for _, c := range invalidConstraints() {
 		for _, domains := range [][]int{{1, 2}, {63, 63}, {0, 0}, {0, 63}} {
 			if got := impl.Filter(c, domains); len(got) != 0 || impl.IsEntailed(c, domains) {
 				t.Errorf("Filter(%+v, %v) = %v, IsEntailed = %v", c, domains, got, impl.IsEntailed(c, domains))
