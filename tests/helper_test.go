@@ -18,6 +18,11 @@ func invalidDomains() []int {
 	return []int{-1, -2, -64, 64, 65, 127, 128, 1 << 32, 1<<32 + 1, smallestInt, smallestInt + 1, largestInt}
 }
 
+// invalidNumbers lists numbers of variables that no model has.
+func invalidNumbers() []int {
+	return []int{smallestInt, -4, -1, 0, 5, 6, 1 << 32, 1<<32 + 1, largestInt}
+}
+
 // invalidModels lists models that are invalid in different ways.
 func invalidModels() []impl.Model {
 	never := impl.Constraint{Kind: impl.Linear, Vars: []int{0}, Args: []int{0}, Bound: -1}

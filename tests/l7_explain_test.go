@@ -383,7 +383,7 @@ func TestExplanationsRejectInvalidConstraintsAndDomains(t *testing.T) {
 	for _, domains := range invalidDomainLists() {
 		checkNoExplanation(t, never, domains, impl.Removal{})
 	}
-	for _, n := range []int{smallestInt, -4, -1, 0, 5, 6, 1 << 32, 1<<32 + 1, largestInt} {
+	for _, n := range invalidNumbers() {
 		checkReasons(t, never, n, nil, impl.Removal{}, false)
 		checkReasons(t, never, n, []impl.Removal{{}}, impl.Removal{}, false)
 	}
