@@ -144,11 +144,13 @@ func allWithin(numbers []int, low int, high int) bool {
 
 // rowsWithin reports whether there are 1 to MaxRows rows, each of the given length and with numbers in low..high.
 func rowsWithin(rows [][]int, length int, low int, high int) bool {
-	if !within(len(rows), 1, MaxRows) {
-		return false
-	}
-	for _, row := range rows {
-		if len(row) != length || !allWithin(row, low, high) {
+	return within(len(rows), 1, MaxRows) && listsWithin(rows, length, low, high)
+}
+
+// listsWithin reports whether every list has the given length and numbers in low..high.
+func listsWithin(lists [][]int, length int, low int, high int) bool {
+	for _, list := range lists {
+		if len(list) != length || !allWithin(list, low, high) {
 			return false
 		}
 	}
