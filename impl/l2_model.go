@@ -231,12 +231,17 @@ func copyModel(m Model) Model {
 
 // copyConstraint returns a copy of c that shares no memory with it.
 func copyConstraint(c Constraint) Constraint {
-	var rows [][]int
-	for _, row := range c.Rows {
-		rows = append(rows, copyInts(row))
-	}
-	c.Vars, c.Args, c.Rows = copyInts(c.Vars), copyInts(c.Args), rows
+	c.Vars, c.Args, c.Rows = copyInts(c.Vars), copyInts(c.Args), copyLists(c.Rows)
 	return c
+}
+
+// copyLists returns a copy of the lists that shares no memory with them.
+func copyLists(lists [][]int) [][]int {
+	var copied [][]int
+	for _, list := range lists {
+		copied = append(copied, copyInts(list))
+	}
+	return copied
 }
 
 // copyInts returns a copy of the numbers. Unlike slices.Clone, it does not keep the address of an empty slice.
