@@ -299,9 +299,9 @@ func TestRefutesByItsDefinition(t *testing.T) {
 	}
 }
 
-func TestNogoodsExcludeNoSolution(t *testing.T) {
+func TestPromise74NogoodExcludesNoSolution(t *testing.T) {
 	s := newSource(143)
-	seen := map[bool]int{}
+	seen, listed := map[bool]int{}, map[bool]int{}
 	for range 900 {
 		m := s.provable()
 		lits := s.conjunction(len(m.Domains))
@@ -309,14 +309,21 @@ func TestNogoodsExcludeNoSolution(t *testing.T) {
 		want := !slices.ContainsFunc(list, func(x []int) bool { return allTrue(lits, x) })
 		checkNogood(t, m, lits, want)
 		seen[want]++
+		if n := impl.CountWith(m, lits); (n == 0) != want {
+			t.Fatalf("IsNogood(%+v, %v) = %v, but CountWith is %d", m, lits, want, n)
+		}
+		if len(list) > 20 {
+			continue
+		}
+		listed[want]++
 		c, ok := impl.NegateAll(len(m.Domains), lits)
-		excludes := slices.ContainsFunc(list, func(x []int) bool { return !impl.ClauseHolds(c, x) })
+		excludes := slices.ContainsFunc(impl.SolveAll(m, 20), func(x []int) bool { return !impl.ClauseHolds(c, x) })
 		if !ok || excludes == want {
 			t.Fatalf("IsNogood(%+v, %v) = %v, but it is %v that the clause %v excludes a solution", m, lits, want, excludes, c)
 		}
 	}
-	if seen[true] < 200 || seen[false] < 150 {
-		t.Errorf("the conjunctions were not balanced: %v", seen)
+	if seen[true] < 200 || seen[false] < 150 || listed[true] < 200 || listed[false] < 20 {
+		t.Errorf("the conjunctions were not balanced: %v, %v", seen, listed)
 	}
 }
 
