@@ -110,13 +110,18 @@ func (c circuitRule) satisfied(x []int) bool {
 	return position == 0 && steps == len(x)
 }
 
-// satisfies reports whether the assignment x of a model satisfies its constraint c.
-func satisfies(c Constraint, x []int) bool {
-	values := make([]int, len(c.Vars))
-	for i, v := range c.Vars {
+// valuesAt returns the values of the variables in the assignment x.
+func valuesAt(vars []int, x []int) []int {
+	values := make([]int, len(vars))
+	for i, v := range vars {
 		values[i] = x[v]
 	}
-	return satisfactionTest(c)(values)
+	return values
+}
+
+// satisfies reports whether the assignment x of a model satisfies its constraint c.
+func satisfies(c Constraint, x []int) bool {
+	return satisfactionTest(c)(valuesAt(c.Vars, x))
 }
 
 // isAssignment reports whether x is an assignment of n variables.
